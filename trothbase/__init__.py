@@ -1,0 +1,1 @@
+"""Trothbase: a relational database kept by houses of which some may lie."""
