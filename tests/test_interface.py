@@ -1,7 +1,7 @@
 import inspect
 import unittest
 
-from trothbase import errors, forms, names, trees
+from trothbase import errors, forms, heads, ledger, names, queries, statements, trees
 
 FUNCTIONS = {
     names: {"is_plain": ["value"], "same": ["first", "second"]},
@@ -9,6 +9,19 @@ FUNCTIONS = {
         "empty": ["registry"], "missing": ["registry", "root", "pages"], "is_page": ["value"], "order": ["key"],
     },
     forms: {"is_statement": ["value"]},
+    statements: {"say": ["look", "statement", "session", "founder"]},
+    ledger: {
+        "founding_tree": ["registry", "founding"], "founding_header": ["registry", "founding"], "is_founding": ["value"],
+        "is_commit": ["registry", "value"], "last_number": ["tree", "session"],
+        "run_items": ["tree", "items", "session", "founder"], "run_commit": ["tree", "word", "founder"],
+        "run_block": ["registry", "tree", "block", "founder"],
+        "made_header": ["registry", "header", "tree", "block", "founder"],
+        "chosen": ["registry", "tree", "words", "founder"],
+    },
+    heads: {
+        "is_header": ["value"], "quorum": ["owners"], "is_certificate": ["registry", "value", "header", "owners"],
+        "judged_heads": ["registry", "header", "heads"],
+    },
 }
 CLASSES = {
     errors: {"Refused": {"__init__": ["problem"]}},
@@ -22,6 +35,7 @@ CLASSES = {
             "changed": ["changes"], "visited": [], "pages": [],
         },
     },
+    queries: {"Look": {"__init__": ["tree", "changes"], "get": ["key"], "scan": ["low", "high"]}},
 }
 ERRORS = [
     "TrothError", "Refused", "InvalidArgument", "PowerOff", "HouseClosed", "MissingPage", "NoTransaction",

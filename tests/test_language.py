@@ -91,6 +91,25 @@ class LanguageTest(unittest.TestCase):
         for path, node in self.nodes(ast.FunctionDef, ast.ClassDef):
             self.assertEqual(node.decorator_list, [], self.where(path, node))
 
+    def test_l6_captured_names(self):
+        for path, node in self.nodes(ast.FunctionDef):
+            parts = list(ast.walk(node))
+            captured = {part.name for part in parts if isinstance(part, (ast.MatchAs, ast.MatchStar)) and part.name}
+            others = {part.id for part in parts if isinstance(part, ast.Name) and isinstance(part.ctx, ast.Store)}
+            others |= {part.arg for part in parts if isinstance(part, ast.arg)}
+            self.assertEqual(captured & others - {"_"}, set(), self.where(path, node))
+
+    def test_l15_imported_names(self):
+        for path, _, tree in self.files:
+            taken = {alias.name for node in tree.body if isinstance(node, ast.ImportFrom) for alias in node.names}
+            taken |= {node.name for node in tree.body if isinstance(node, ast.ClassDef)}
+            for function in [node for node in ast.walk(tree) if isinstance(node, ast.FunctionDef)]:
+                parts = list(ast.walk(function))
+                named = {part.arg for part in parts if isinstance(part, ast.arg)}
+                named |= {part.id for part in parts if isinstance(part, ast.Name) and isinstance(part.ctx, ast.Store)}
+                named |= {part.name for part in parts if isinstance(part, ast.MatchAs) and part.name}
+                self.assertEqual(named & taken, set(), self.where(path, function))
+
     def test_l7_values(self):
         for path, node in self.nodes(ast.Constant):
             self.assertNotIsInstance(node.value, (float, complex), self.where(path, node))

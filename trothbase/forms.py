@@ -1,6 +1,7 @@
 """The forms of statements."""
 
 from trothbase.names import is_integer, is_plain
+from trothbase.owners import is_owner
 
 KINDS = ("integer", "text")
 OPERATORS = ("=", "<>", "<", "<=")
@@ -11,7 +12,6 @@ MOST_COLUMNS = 5
 MOST_CONDITIONS = 6
 MOST_OPERANDS = 6
 LAST_PLACE = 9
-LAST_OWNER = 999
 PERCENT = 37
 
 
@@ -37,7 +37,7 @@ def is_statement(value):
             right = _is_output(output) and _is_all(sources, 1, 2, _is_source)
             return right and _are_conditions(conditions)
         case ("replace", place, owner):
-            return _is_from(place, 0, LAST_PLACE) and _is_from(owner, 1, LAST_OWNER)
+            return _is_from(place, 0, LAST_PLACE) and is_owner(owner)
         case _:
             return False
 

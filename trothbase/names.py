@@ -34,6 +34,18 @@ def is_integer(value):
     return type(value) is int
 
 
+def is_at_least(value, least):
+    """Whether a value is an integer from least on."""
+    return is_integer(value) and value >= least
+
+
+def depth(value):
+    """How many tuples of a plain value are within one another, at the most."""
+    if not isinstance(value, tuple):
+        return 0
+    return 1 + max([depth(part) for part in value], default=0)
+
+
 def same(first, second):
     """Whether two plain values are equal and of equal kinds throughout."""
     waiting = [(first, second)]

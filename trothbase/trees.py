@@ -1,7 +1,7 @@
 """The map as a tree of pages that are called by their names."""
 
 from trothbase.errors import MissingPage
-from trothbase.names import is_integer, is_plain
+from trothbase.names import is_at_least, is_integer, is_plain
 
 MOST_PARTS = 6
 EMPTY_LEAF = ("leaf", ())
@@ -37,7 +37,7 @@ def _is_key(value):
 
 def _is_child(pair):
     first, name = pair
-    return _is_key(first) and is_integer(name) and name >= 1
+    return _is_key(first) and is_at_least(name, 1)
 
 
 def _cut(parts):
@@ -58,7 +58,7 @@ def _drafts(kind, parts):
     return [(piece[0][0], (kind, piece)) for piece in _cut(parts)]
 
 
-def _merged(entries, changes):
+def merged(entries, changes):
     """The entries with changes over them, in ascending order of keys."""
     table = {key: value for key, value in entries}
     for key, value in changes:
@@ -174,7 +174,7 @@ class Tree:
         """The drafts, with their first keys, in the place of a page."""
         kind, parts = self._visit(name)
         if kind == "leaf":
-            return _drafts("leaf", _merged(parts, changes))
+            return _drafts("leaf", merged(parts, changes))
         children = []
         for child, share in zip(parts, _shares(parts, changes)):
             if share:
