@@ -1,7 +1,9 @@
 import inspect
 import unittest
 
-from trothbase import errors, forms, heads, ledger, names, queries, statements, trees
+from trothbase import (
+    errors, forms, heads, house, ledger, names, queries, rounds, session, shelf, statements, trees,
+)
 
 FUNCTIONS = {
     names: {"is_plain": ["value"], "same": ["first", "second"]},
@@ -22,6 +24,10 @@ FUNCTIONS = {
         "is_header": ["value"], "quorum": ["owners"], "is_certificate": ["registry", "value", "header", "owners"],
         "judged_heads": ["registry", "header", "heads"],
     },
+    session: {
+        "judged_pages": ["registry", "pages"],
+        "judged_answers": ["registry", "root", "pages", "statements", "session", "founder"],
+    },
 }
 CLASSES = {
     errors: {"Refused": {"__init__": ["problem"]}},
@@ -36,6 +42,30 @@ CLASSES = {
         },
     },
     queries: {"Look": {"__init__": ["tree", "changes"], "get": ["key"], "scan": ["low", "high"]}},
+    rounds: {
+        "Rounds": {
+            "__init__": ["registry", "owner", "header", "tree", "founder"], "hear": ["word"], "take": ["number", "reason"],
+            "due": ["pool"], "tick": ["pool"], "decided": [], "stand": [], "words": [],
+        },
+    },
+    shelf: {
+        "Shelf": {
+            "__init__": [], "records": [], "append": ["record"], "sync": [], "pending": [], "fail_after": ["operations"],
+            "power": ["kept"], "is_on": [], "losses": [],
+        },
+    },
+    house: {
+        "House": {
+            "__init__": ["registry", "pen", "founding", "shelf"], "hear": ["sender", "word"], "tick": [], "pulse": [],
+            "height": [], "head": [], "stand": [], "tree": [], "pool": [],
+        },
+    },
+    session: {
+        "Session": {
+            "__init__": ["registry", "pen", "founding"], "height": [], "wanted": [], "begin": [], "say": ["statement"],
+            "rollback": [], "commit": [], "asked": [], "hear": ["word"], "said": [],
+        },
+    },
 }
 ERRORS = [
     "TrothError", "Refused", "InvalidArgument", "PowerOff", "HouseClosed", "MissingPage", "NoTransaction",
@@ -63,6 +93,12 @@ class InterfaceTest(unittest.TestCase):
     def test_errors(self):
         for name in ERRORS:
             self.assertEqual(getattr(errors, name).__module__, "trothbase.errors")
+
+    def test_nothing_stands_between(self):
+        """Each function and class is defined in its file, and each method in the class itself."""
+        for module in [*FUNCTIONS, *CLASSES]:
+            for name in [*FUNCTIONS.get(module, ()), *CLASSES.get(module, ())]:
+                self.assertTrue(inspect.getsourcefile(getattr(module, name)).endswith(module.__name__.split(".")[1] + ".py"))
 
     def test_attributes_are_set_on_each_object(self):
         registry = names.Registry()

@@ -99,6 +99,41 @@ class LanguageTest(unittest.TestCase):
             others |= {part.arg for part in parts if isinstance(part, ast.arg)}
             self.assertEqual(captured & others - {"_"}, set(), self.where(path, node))
 
+    def test_l6_captured_names_are_read_in_place(self):
+        inner = (ast.Lambda, ast.GeneratorExp)
+        for path, match in self.nodes(ast.Match):
+            for case in match.cases:
+                captured = {part.name for part in ast.walk(case.pattern) if isinstance(part, ast.MatchAs) and part.name}
+                for part in [part for row in case.body for part in ast.walk(row) if isinstance(part, inner)]:
+                    read = {name.id for name in ast.walk(part) if isinstance(name, ast.Name)}
+                    self.assertEqual(read & captured, set(), self.where(path, part))
+
+    def test_l18_and_l26_attributes(self):
+        barred = set(
+            "items keys values pop update append clear extend insert remove reverse setdefault sort args encode decode hex "
+            "fromhex format".split()
+        )
+        taken = {}
+        for path, node in self.nodes(ast.ClassDef):
+            parts = [part for part in ast.walk(node) if isinstance(part, ast.Attribute) and isinstance(part.ctx, ast.Store)]
+            attributes = {part.attr for part in parts}
+            methods = {part.name for part in node.body if isinstance(part, ast.FunctionDef)}
+            self.assertEqual(attributes & (methods | barred), set(), self.where(path, node))
+            taken[node.name] = (attributes, methods)
+        for attributes, _ in taken.values():
+            for _, methods in taken.values():
+                self.assertEqual(attributes & methods, set())
+
+    def test_l23_what_is_iterated_is_not_modified(self):
+        changing = {"append", "clear", "extend", "insert", "pop", "remove", "reverse", "setdefault", "update"}
+        for path, loop in self.nodes(ast.For):
+            over = ast.dump(loop.iter)
+            for part in [part for row in loop.body for part in ast.walk(row)]:
+                if isinstance(part, ast.Call) and isinstance(part.func, ast.Attribute) and part.func.attr in changing:
+                    self.assertNotEqual(ast.dump(part.func.value), over, self.where(path, part))
+                if isinstance(part, ast.Subscript) and not isinstance(part.ctx, ast.Load):
+                    self.assertNotEqual(ast.dump(part.value), over, self.where(path, part))
+
     def test_l15_imported_names(self):
         for path, _, tree in self.files:
             taken = {alias.name for node in tree.body if isinstance(node, ast.ImportFrom) for alias in node.names}

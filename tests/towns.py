@@ -21,10 +21,13 @@ class Town:
         self.founding = ("founding", self.owners, FOUNDER)
         self.pens = {}
 
-    def seal(self, owner, body):
+    def pen(self, owner):
         if owner not in self.pens:
             self.pens[owner] = self.registry.pen(owner)
-        return self.pens[owner].seal(body)
+        return self.pens[owner]
+
+    def seal(self, owner, body):
+        return self.pen(owner).seal(body)
 
     def tree(self):
         return founding_tree(self.registry, self.founding)

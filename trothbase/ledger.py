@@ -101,12 +101,17 @@ def _run_told(tree, items, session, founder):
     return ("done",), changes
 
 
+def can_run(registry, tree, word):
+    """Whether any value whatever is a commit that can run on a tree."""
+    if not is_commit(registry, word):
+        return False
+    _, session, (_, _, number, _) = word
+    return number == last_number(tree, session) + 1
+
+
 def _tree_behind(registry, tree, word, founder):
     """The Tree behind a word, or None if it is no commit that can run."""
-    if not is_commit(registry, word):
-        return None
-    _, session, (_, _, number, _) = word
-    if number != last_number(tree, session) + 1:
+    if not can_run(registry, tree, word):
         return None
     _, behind = run_commit(tree, word, founder)
     return behind

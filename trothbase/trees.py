@@ -210,9 +210,8 @@ def empty(registry):
     return Tree(registry, root, {root: EMPTY_LEAF})
 
 
-def missing(registry, root, pages):
-    """The sorted list of the names of all pages of a tree that are not there."""
-    lacking = set()
+def told(root, pages):
+    """The sorted list of the names of all pages of a tree that are told by pages that are there."""
     # A page could be made up that tells its own name to come as that of a
     # child: each name is looked at once.
     seen = set()
@@ -222,10 +221,12 @@ def missing(registry, root, pages):
         if name in seen:
             continue
         seen.add(name)
-        if name not in pages:
-            lacking.add(name)
-            continue
-        kind, parts = pages[name]
+        kind, parts = pages.get(name, EMPTY_LEAF)
         if kind == "node":
             waiting.extend([below for _, below in parts])
-    return sorted(lacking)
+    return sorted(seen)
+
+
+def missing(registry, root, pages):
+    """The sorted list of the names of all pages of a tree that are not there."""
+    return [name for name in told(root, pages) if name not in pages]
