@@ -71,7 +71,8 @@ class House:
     def stand(self):
         """The triple of the next height, the round and the step."""
         self._need_power()
-        return self._heights.last() + 1, *self._rounds.stand()
+        number, step = self._rounds.stand()
+        return self._heights.last() + 1, number, step
 
     def tree(self):
         """A new Tree of its height."""

@@ -66,7 +66,8 @@ class Rounds:
         known = None if lock is None else self._votes.block_of(lock[1])
         if known is None:
             return self._votes.words()
-        return [("block", *known), *self._votes.words()]
+        header, block = known
+        return [("block", header, block)] + self._votes.words()
 
     def _has_waited(self):
         _, step = self.stand()
@@ -92,7 +93,8 @@ class Rounds:
                 return None
             found = self._sealable(pool)
             if found is not None:
-                return *found, self._reason
+                body, grounds = found
+                return body, grounds, self._reason
             if not self._gives_up():
                 return None
         return None
@@ -121,7 +123,8 @@ class Rounds:
         if pair is None:
             return None
         number, name = pair
-        return *self._votes.block_of(name), ("certificate", number, self._votes.voters(PRECOMMIT, number, name))
+        header, block = self._votes.block_of(name)
+        return header, block, ("certificate", number, self._votes.voters(PRECOMMIT, number, name))
 
     def _follows(self):
         """Goes to the greatest round that enough others have reached; whether there is one."""
@@ -194,4 +197,5 @@ class Rounds:
         body = (kind, self._elder[1] + 1, self._turn, name)
         if kind == PREVOTE or name is None:
             return body, None
-        return body, (*self._votes.block_of(name), self._votes.voters(PREVOTE, self._turn, name))
+        header, block = self._votes.block_of(name)
+        return body, (header, block, self._votes.voters(PREVOTE, self._turn, name))

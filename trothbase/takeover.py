@@ -1,6 +1,6 @@
 """Heads and pages that a house takes over from others."""
 
-from trothbase.trees import is_page, missing, told
+from trothbase.trees import is_page, missing, names_told
 
 
 class TakeOver:
@@ -63,7 +63,7 @@ class TakeOver:
         """The heads up to a height that is complete, and the pages of its tree that are not among the own ones."""
         heads = tuple([head for head in self._row if head[0][1] <= height])
         known = {**own, **self._kept}
-        names = told(heads[-1][0][4], known)
+        names = names_told(heads[-1][0][4], known)
         return heads, tuple([known[name] for name in names if name not in own])
 
     def go_on(self, height, own):

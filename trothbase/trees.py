@@ -210,7 +210,7 @@ def empty(registry):
     return Tree(registry, root, {root: EMPTY_LEAF})
 
 
-def told(root, pages):
+def names_told(root, pages):
     """The sorted list of the names of all pages of a tree that are told by pages that are there."""
     # A page could be made up that tells its own name to come as that of a
     # child: each name is looked at once.
@@ -229,4 +229,4 @@ def told(root, pages):
 
 def missing(registry, root, pages):
     """The sorted list of the names of all pages of a tree that are not there."""
-    return [name for name in told(root, pages) if name not in pages]
+    return [name for name in names_told(root, pages) if name not in pages]

@@ -38,7 +38,8 @@ class Votes:
         owner, kind, number, name, _ = found
         self._marks[found] = True
         self._words.append(word)
-        self._sealers.setdefault((kind, number), {})[owner] = True
+        sealers = self._sealers.setdefault((kind, number), {})
+        sealers[owner] = True
         self._latest[owner] = max(number, self._latest.get(owner, 0))
         if kind == PROPOSAL:
             body = word[2]
